@@ -128,11 +128,15 @@ def square_free(poly):
     return quotient(poly, divisor_of(poly, derivative(poly)))
 
 
-# The value times the under's power, which is above 0, has the same sign and is a whole number.
-def sign_at(poly, given):
-    value = 0
+# The value at top / under, times the under's power by the degree: whole, and of the value's sign, as under is above 0.
+def height_at(poly, top, under):
+    height = 0
     scale = 1
     for number in reversed(poly):
-        value = value * given[0] + number * scale
-        scale = scale * given[1]
-    return sign(value)
+        height = height * top + number * scale
+        scale = scale * under
+    return height
+
+
+def sign_at(poly, given):
+    return sign(height_at(poly, given[0], given[1]))

@@ -7,11 +7,13 @@ import unittest
 from samples import GREAT, drawn, product
 
 import surefoot
-from surefoot import polys, ratios
+from surefoot import errors, isolating, numbers, polys, ratios
 
 POLYS = [[], [1], [-6], [0, 1], [4, -6], [-1, 0, 1], [1, 2, 1], product([1, 2], [1, 2], [3, -5]), drawn(1, 9, GREAT)]
 RATIOS = [(0, 1), (-1, 2), (GREAT, 3)]
 POWERS = product([-1, 1], [-1, 1], [2, 4])
+WIDTHS = [(5, 1), (1, 2 ** 60)]
+TOO_GREAT = [1] + [0] * 12 + [-6]
 
 
 def calls():
@@ -37,15 +39,57 @@ def calls():
         for other in RATIOS:
             for name in ("plus", "minus", "times", "middle", "order_of"):
                 found.append((getattr(ratios, name), [one, other]))
+    found.extend(calls_for_roots())
     return [(function, copy.deepcopy(given)) for function, given in found]
+
+
+def calls_for_roots():
+    found = []
+    for poly in POLYS[1:]:
+        found.append((isolating.isolated, [poly]))
+        found.append((numbers.roots, [poly]))
+        found.append((isolating.counted_in, [poly, RATIOS[1], RATIOS[2]]))
+        for k, pair in enumerate(isolating.isolated(poly)):
+            found.append((numbers.nth, [poly, k]))
+            for width in WIDTHS:
+                found.append((isolating.refined, [poly, pair, width]))
+    several = [numbers.of_ratio(given) for given in RATIOS]
+    several.extend(number for poly in POLYS[1:] for number in numbers.roots(poly))
+    several.extend(numbers.roots(product([-2, 0, 1], [-3, 0, 1])) + numbers.roots([-2, 0, 1]))
+    for number in several:
+        for name in ("sign_of", "as_ratio", "floor_of", "weight_of"):
+            found.append((getattr(numbers, name), [number]))
+        found.extend((numbers.compared, [number, other]) for other in several)
+    found.extend((numbers.of_ratio, [given]) for given in RATIOS)
+    return found
+
+
+def plain(value):
+    """A value with its lists and numbers taken apart, so that two of them can be compared."""
+    if isinstance(value, numbers.Root):
+        return {name: plain(part) for name, part in vars(value).items()}
+    if isinstance(value, (list, tuple)):
+        return (type(value), [plain(part) for part in value])
+    return value
 
 
 class HandedIn(unittest.TestCase):
     def test_nothing_is_changed(self):
         for function, given in calls():
-            before = copy.deepcopy(given)
+            before = plain(given)
             function(*given)
-            self.assertEqual(given, before, function.__name__)
+            self.assertEqual(plain(given), before, function.__name__)
+
+    def test_nothing_is_changed_by_what_is_refused(self):
+        for function, given in (
+            (isolating.isolated, [TOO_GREAT]), (numbers.roots, [TOO_GREAT]), (numbers.nth, [TOO_GREAT, 0]),
+            (numbers.nth, [[-2, 0, 1], 2]), (numbers.nth, [[-2, 0, 1], -1]), (numbers.nth, [[4], 0]),
+        ):
+            before = copy.deepcopy(given)
+            for _ in range(2):
+                with self.assertRaises(errors.FootError):
+                    function(*given)
+                self.assertEqual(given, before, function.__name__)
 
     def test_the_same_list_twice(self):
         for function in (polys.added, polys.multiplied, polys.divisor_of, polys.quotient):
@@ -59,19 +103,38 @@ class HandedIn(unittest.TestCase):
             told = function(*given)
             if not isinstance(told, list):
                 continue
-            before = copy.deepcopy(given)
-            first = list(told)
+            before = plain(given)
+            first = plain(told)
             told.append(99)
             told[0] = 98
-            self.assertEqual(given, before, function.__name__)
+            self.assertEqual(plain(given), before, function.__name__)
             again = function(*given)
-            self.assertEqual(again, first, function.__name__)
+            self.assertEqual(plain(again), first, function.__name__)
             self.assertIsNot(again, told)
 
+    def test_numbers_don_t_hang_on_the_lists_that_they_came_of(self):
+        poly = [-2, 0, 1]
+        told = numbers.roots(poly)
+        number = told[1]
+        other = numbers.nth(poly, 1)
+        told.clear()
+        poly[0] = -9
+        poly.append(1)
+        for one in (number, other):
+            self.assertEqual((numbers.floor_of(one), numbers.weight_of(one), numbers.as_ratio(one)), (1, 2, None))
+            self.assertEqual(numbers.compared(one, numbers.nth([-2, 0, 1], 1)), 0)
+
     def test_told_again_whatever_was_told_between(self):
-        first = [function(*given) for function, given in calls()]
-        second = [function(*given) for function, given in reversed(calls())]
+        first = [plain(function(*given)) for function, given in calls()]
+        second = [plain(function(*given)) for function, given in reversed(calls())]
         self.assertEqual(first, list(reversed(second)))
+
+    def test_an_own_number_is_told_the_same_again(self):
+        number = numbers.nth([-2, 0, 1], 1)
+        nearer = numbers.of_ratio((141421356, 10 ** 8))
+        first = [numbers.compared(number, nearer), numbers.floor_of(number), numbers.sign_of(number)]
+        self.assertEqual(first, [numbers.compared(number, nearer), numbers.floor_of(number), numbers.sign_of(number)])
+        self.assertEqual(first, [1, 1, 1])
 
     def test_the_package_binds_nothing(self):
         for name, value in vars(surefoot).items():

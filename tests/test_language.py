@@ -143,7 +143,7 @@ class Shape(unittest.TestCase):
             self.assertIsInstance(node.value, (int, str, bool, type(None)), (name, node.lineno))
             self.assertFalse(isinstance(node.value, str) and "%" in node.value, (name, node.lineno))
         for name, node in nodes(ast.BinOp):
-            if isinstance(node.op, ast.Pow) and isinstance(node.left, ast.Constant):
+            if isinstance(node.op, ast.Pow):
                 self.assertIsInstance(node.right, ast.Constant, (name, node.lineno))
                 self.assertIn(node.right.value, range(65), (name, node.lineno))
         for name, node in nodes(ast.Compare):

@@ -1,14 +1,19 @@
-"""How many roots lie where, read off the changes of sign along a chain of polynomials (Sturm's theorem)."""
+"""How many roots lie where, read off the changes of sign along a row of numbers."""
 
 from surefoot.polys import derivative, sign_at, trimmed
-from surefoot.ratios import sign
+from surefoot.ratios import power, sign
 
 
-def power(number, many):
-    product = 1
-    for turn in range(many):
-        product = product * number
-    return product
+# Noughts are passed over.
+def changes_in(row):
+    many = 0
+    before = 0
+    for number in row:
+        if number * before < 0:
+            many = many + 1
+        if number != 0:
+            before = sign(number)
+    return many
 
 
 # The remainder by the other one, times a number above 0: the size of the other's last number, to a power that is one
@@ -43,14 +48,7 @@ def chain_of(free):
     return chain
 
 
-# From a ratio to a greater one the changes grow fewer by the roots that are above the one and not above the other.
+# From a ratio to a greater one the changes grow fewer by the roots that are above the one and not above the other: that
+# is Sturm's theorem.
 def changes_at(chain, given):
-    many = 0
-    before = 0
-    for poly in chain:
-        now = sign_at(poly, given)
-        if now * before < 0:
-            many = many + 1
-        if now != 0:
-            before = now
-    return many
+    return changes_in([sign_at(poly, given) for poly in chain])

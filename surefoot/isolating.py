@@ -1,8 +1,8 @@
 """Real roots told apart, each between two ratios, which can be drawn together."""
 
-from surefoot.counting import chain_of, changes_at
+from surefoot.counting import chain_of, changes_at, changes_in
 from surefoot.errors import TooGreat
-from surefoot.polys import degree, height_at, square_free
+from surefoot.polys import composed, degree, height_at, square_free
 from surefoot.ratios import middle, ratio, sign
 
 GREATEST_DEGREE = 12
@@ -118,6 +118,18 @@ def narrowed(free, pair, width):
         stretch = halved(free, stretch) if found is None else found
         needed = parts_needed(stretch, width)
     return (ratio(stretch[0], stretch[2]), ratio(stretch[1], stretch[2]))
+
+
+# Whether the pair has one root between, and no root is at its ends. Of some wide pairs it isn't told though it is so,
+# but of each about a root that is narrow enough. A chain would tell it of wide pairs too, but out of numbers that are
+# many times as long.
+def is_alone(free, pair):
+    stretch = stretch_of(pair)
+    # Its roots above 0 stand for the roots between, as (low + high * t) / (1 + t) is between for a t above 0 alone; and
+    # it is shorter, or begins with 0, if an end is a root.
+    poly = composed(free, [stretch[0], stretch[1]], [stretch[2], stretch[2]])
+    # One change of sign means one root above 0 (Descartes' rule).
+    return len(poly) == len(free) and poly[0] != 0 and changes_in(poly) == 1
 
 
 def refined(poly, pair, width):

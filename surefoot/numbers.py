@@ -20,8 +20,8 @@ def of_ratio(given):
 
 
 # Times the polynomial's last number each root that is a ratio is a whole number, and a pair that is no wider than one
-# over that number has room for one such root alone.
-def number_in(free, pair):
+# over that number has room for one such root alone. The weight is what the number has unless it is a ratio.
+def number_in(free, pair, weight):
     last = free[-1]
     narrow = narrowed(free, pair, (1, last))
     low = narrow[0]
@@ -31,20 +31,21 @@ def number_in(free, pair):
     given = ratio(low[0] * last // low[1] + 1, last)
     if order_of(given, high) < 0 and sign_at(free, given) == 0:
         return of_ratio(given)
-    return Root(free, narrow, degree(free))
+    return Root(free, narrow, weight)
 
 
 def roots(poly):
     pairs = isolated(poly)
     free = square_free(poly)
-    return [number_in(free, pair) for pair in pairs]
+    return [number_in(free, pair, degree(free)) for pair in pairs]
 
 
 def nth(poly, k):
     pairs = isolated(poly)
     if k < 0 or k >= len(pairs):
         raise NoNumber("there is no root at that place")
-    return number_in(square_free(poly), pairs[k])
+    free = square_free(poly)
+    return number_in(free, pairs[k], degree(free))
 
 
 def as_ratio(number):
@@ -101,8 +102,13 @@ def sign_of(number):
     return against(number, (0, 1))
 
 
+# The greatest whole number that isn't above the number times the scale, a whole number above 0.
+def floor_times(number, scale):
+    low = narrowed(number.poly, number.pair, (1, scale))[0]
+    # The number times the scale is less than 2 above this one.
+    whole = low[0] * scale // low[1]
+    return whole if against(number, ratio(whole + 1, scale)) < 0 else whole + 1
+
+
 def floor_of(number):
-    low = narrowed(number.poly, number.pair, (1, 1))[0]
-    # The number is less than 2 above this one.
-    whole = low[0] // low[1]
-    return whole if against(number, (whole + 1, 1)) < 0 else whole + 1
+    return floor_times(number, 1)

@@ -128,6 +128,16 @@ def square_free(poly):
     return quotient(poly, divisor_of(poly, derivative(poly)))
 
 
+# What the polynomial is at top / under, these being polynomials, times the under's power by the degree.
+def composed(poly, top, under):
+    made = []
+    scale = [1]
+    for number in reversed(poly):
+        made = added(multiplied(made, top), scaled(scale, number))
+        scale = multiplied(scale, under)
+    return made
+
+
 # The value at top / under, times the under's power by the degree: whole, and of the value's sign, as under is above 0.
 def height_at(poly, top, under):
     height = 0

@@ -19,6 +19,21 @@ def sign(number):
     return 1 if number > 0 else 0
 
 
+# By squares, as the count may be great where the number is 0, 1 or -1.
+def power(number, many):
+    product = 1
+    square = number
+    left = many
+    while left > 0:
+        if left % 2 == 1:
+            product = product * square
+        left = left // 2
+        # The last square of all would be the longest, and in vain.
+        if left > 0:
+            square = square * square
+    return product
+
+
 def ratio(top, under):
     if under == 0:
         raise NoRatio("a ratio's under can't be 0")

@@ -109,6 +109,12 @@ class Known:
         return Fraction(place, under)
 
 
+    def bounds(self):
+        """Two Fractions with the number between them, or at the first one."""
+        low = self.rounded()
+        return low, low + Fraction(1, 2 ** 1500)
+
+
 def plain_root(number, power):
     """The greatest whole number whose power isn't above the number."""
     if number == 0:

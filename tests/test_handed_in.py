@@ -7,13 +7,16 @@ import unittest
 from samples import GREAT, drawn, product
 
 import surefoot
-from surefoot import errors, isolating, numbers, polys, ratios
+from surefoot import desk, errors, field, isolating, numbers, polys, ratios, texts
 
 POLYS = [[], [1], [-6], [0, 1], [4, -6], [-1, 0, 1], [1, 2, 1], product([1, 2], [1, 2], [3, -5]), drawn(1, 9, GREAT)]
 RATIOS = [(0, 1), (-1, 2), (GREAT, 3)]
 POWERS = product([-1, 1], [-1, 1], [2, 4])
 WIDTHS = [(5, 1), (1, 2 ** 60)]
 TOO_GREAT = [1] + [0] * 12 + [-6]
+HEAVY = numbers.nth([-2] + [0] * 11 + [1], 1)
+NOUGHT = numbers.of_ratio((0, 1))
+ROWS = "let a 3/2\nroot b 1 x^2 - 2\nsum c a b\ndecimal c 9\nratio c\nover d a e\ncount x^2 - 1\ncount 1x\n\nwhat"
 
 
 def calls():
@@ -39,7 +42,7 @@ def calls():
         for other in RATIOS:
             for name in ("plus", "minus", "times", "middle", "order_of"):
                 found.append((getattr(ratios, name), [one, other]))
-    found.extend(calls_for_roots())
+    found.extend(calls_for_roots() + calls_for_field() + calls_for_texts())
     return [(function, copy.deepcopy(given)) for function, given in found]
 
 
@@ -64,6 +67,36 @@ def calls_for_roots():
     return found
 
 
+def calls_for_field():
+    found = []
+    several = [numbers.of_ratio(given) for given in RATIOS]
+    several.extend(numbers.roots([0, -2, 0, 1]) + [numbers.nth([-2, 0, 0, 1], 0), numbers.nth([-4, 1, 0, 0, 1], 1)])
+    for one in several:
+        found.extend((field.near, [one, width]) for width in WIDTHS)
+        found.extend((field.power_of, [one, many]) for many in (0, 1))
+        found.extend((texts.decimal, [one, digits]) for digits in (0, 7))
+        found.append((field.opposite, [one]))
+        if numbers.sign_of(one) >= 0:
+            found.extend((field.root_of, [one, many]) for many in (1, 3))
+        if numbers.sign_of(one) != 0:
+            found.append((field.inverse, [one]))
+        for other in several:
+            if numbers.weight_of(one) * numbers.weight_of(other) <= 12:
+                for name in ("added_to", "less", "multiplied_by"):
+                    found.append((getattr(field, name), [one, other]))
+                if numbers.sign_of(other) != 0:
+                    found.append((field.over, [one, other]))
+    return found
+
+
+def calls_for_texts():
+    found = [(texts.written, [poly]) for poly in POLYS] + [(texts.ratio_text, [given]) for given in RATIOS]
+    found.extend((texts.read, [text]) for text in ("0", "x^2 - 2", "-3x^12 + x - 1"))
+    found.extend((texts.read_ratio, [text]) for text in ("0", "-3/2"))
+    found.append((desk.play, [ROWS]))
+    return found
+
+
 def plain(value):
     """A value with its lists and numbers taken apart, so that two of them can be compared."""
     if isinstance(value, numbers.Root):
@@ -84,12 +117,16 @@ class HandedIn(unittest.TestCase):
         for function, given in (
             (isolating.isolated, [TOO_GREAT]), (numbers.roots, [TOO_GREAT]), (numbers.nth, [TOO_GREAT, 0]),
             (numbers.nth, [[-2, 0, 1], 2]), (numbers.nth, [[-2, 0, 1], -1]), (numbers.nth, [[4], 0]),
+            (field.added_to, [HEAVY, HEAVY]), (field.less, [HEAVY, HEAVY]), (field.multiplied_by, [HEAVY, HEAVY]),
+            (field.over, [HEAVY, HEAVY]), (field.over, [HEAVY, NOUGHT]), (field.inverse, [NOUGHT]),
+            (field.power_of, [HEAVY, 2]), (field.root_of, [HEAVY, 2]), (field.root_of, [field.opposite(HEAVY), 2]),
+            (texts.read, ["x^1"]), (texts.read_ratio, ["4/2"]),
         ):
-            before = copy.deepcopy(given)
+            before = plain(given)
             for _ in range(2):
                 with self.assertRaises(errors.FootError):
                     function(*given)
-                self.assertEqual(given, before, function.__name__)
+                self.assertEqual(plain(given), before, function.__name__)
 
     def test_the_same_list_twice(self):
         for function in (polys.added, polys.multiplied, polys.divisor_of, polys.quotient):
@@ -128,6 +165,14 @@ class HandedIn(unittest.TestCase):
         first = [plain(function(*given)) for function, given in calls()]
         second = [plain(function(*given)) for function, given in reversed(calls())]
         self.assertEqual(first, list(reversed(second)))
+
+    def test_what_is_told_of_a_number_does_not_hang_on_it(self):
+        number = numbers.nth([0, -2, 0, 1], 2)
+        told = [field.opposite(number), field.inverse(number), field.root_of(number, 1), field.power_of(number, 1)]
+        told.append(field.added_to(number, NOUGHT))
+        first = plain(told)
+        number.poly[0] = 99
+        self.assertEqual(plain(told), first)
 
     def test_an_own_number_is_told_the_same_again(self):
         number = numbers.nth([-2, 0, 1], 1)

@@ -19,6 +19,15 @@ FILES = {
         "of_ratio": "given", "nth": "poly k", "roots": "poly", "compared": "one other", "sign_of": "number",
         "floor_of": "number", "weight_of": "number", "as_ratio": "number",
     },
+    "field": {
+        "added_to": "one other", "less": "one other", "multiplied_by": "one other", "over": "one other",
+        "opposite": "number", "inverse": "number", "power_of": "number many", "root_of": "number many",
+        "near": "number width",
+    },
+    "texts": {
+        "written": "poly", "ratio_text": "given", "decimal": "number digits", "read": "text", "read_ratio": "text",
+    },
+    "desk": {"play": "text"},
 }
 CLASSES = {"errors": "FootError NoRatio NoNumber TooGreat BadText BadRow", "numbers": "Root"}
 
@@ -40,8 +49,9 @@ class Interface(unittest.TestCase):
                 self.assertTrue(inspect.isclass(told))
                 self.assertEqual((told.__name__, told.__module__), (word, "surefoot." + name))
 
-    def test_counting_is_there(self):
-        self.assertEqual(importlib.import_module("surefoot.counting").__name__, "surefoot.counting")
+    def test_files_of_the_program_s_own_are_there(self):
+        for name in ("surefoot.counting", "surefoot.results"):
+            self.assertEqual(importlib.import_module(name).__name__, name)
 
 
 if __name__ == "__main__":

@@ -30,12 +30,12 @@ FORMS = {
 COUNTS = {"place": (0, 12), "times": (0, 12), "many": (1, 12), "digits": (0, 30)}
 
 
-def fits(sort, word):
-    if sort in COUNTS:
-        least = COUNTS[sort][0]
-        greatest = COUNTS[sort][1]
+def fits(kind, word):
+    if kind in COUNTS:
+        least = COUNTS[kind][0]
+        greatest = COUNTS[kind][1]
         return word in [str(count) for count in range(least, greatest + 1)]
-    if sort == "new" or sort == "held":
+    if kind == "new" or kind == "held":
         return len(word) == 1 and "a" <= word <= "z"
     return True
 
@@ -49,7 +49,7 @@ def words_of(row):
     words = row.split(" ", len(form)) if form[-1] == "poly" else row.split(" ")
     if len(words) != len(form) + 1:
         raise BadRow("too few or too many words")
-    if not all([fits(sort, given) for sort, given in zip(form, words[1:])]):
+    if not all([fits(kind, given) for kind, given in zip(form, words[1:])]):
         raise BadRow("no such letter or count")
     return words
 
@@ -107,20 +107,20 @@ class Desk:
             raise NoNumber("nothing is held under that letter")
         return self.numbers[letter]
 
-    def value_of(self, sort, word):
-        if sort == "held":
+    def value_of(self, kind, word):
+        if kind == "held":
             return self.number_under(word)
-        if sort == "ratio":
+        if kind == "ratio":
             return read_ratio(word)
-        if sort == "poly":
+        if kind == "poly":
             return read_unless_nought(word)
-        return int(word) if sort in COUNTS else word
+        return int(word) if kind in COUNTS else word
 
     def done(self, row):
         words = words_of(row)
         word = words[0]
         form = FORMS[word]
-        values = [self.value_of(sort, given) for sort, given in zip(form, words[1:])]
+        values = [self.value_of(kind, given) for kind, given in zip(form, words[1:])]
         if form[0] != "new":
             return told(word, values)
         self.numbers[values[0]] = made(word, values[1:])

@@ -107,9 +107,9 @@ def roots_of(free, many):
 def whole_root(number, many):
     if number == 0:
         return 0
-    guess = 1 << (number.bit_length() // many + 1)
+    guess = power(2, number.bit_length() // many + 1)
     while True:
-        lower = ((many - 1) * guess + number // power(guess, many - 1)) // many
-        if lower >= guess:
+        following = ((many - 1) * guess + number // power(guess, many - 1)) // many
+        if following >= guess:
             return guess
-        guess = lower
+        guess = following

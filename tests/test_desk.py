@@ -103,7 +103,8 @@ class Rows(Checking):
             for other in order:
                 places = order.index(one), order.index(other)
                 self.after("compare " + one + " " + other, str((places[0] > places[1]) - (places[0] < places[1])))
-        for letter, sign, floor in (("m", "-1", "-4"), ("o", "0", "0"), ("r", "1", "1"), ("a", "1", "1"), ("h", "1", "1")):
+        for word in ("m -1 -4", "o 0 0", "r 1 1", "a 1 1", "h 1 1"):
+            letter, sign, floor = word.split()
             self.after("sign " + letter, sign)
             self.after("floor " + letter, floor)
         self.check(("let a -1/2", "ok"), ("floor a", "-1"), ("sign a", "-1"))
@@ -184,8 +185,9 @@ class Refused(Checking):
 
     def test_too_many_words(self):
         for row in (
-            "let z 5 6", "let z 5 /3", "sum z a a a", "less z a a a", "product z a a 1", "over z a a o", "opposite z a a",
-            "inverse z a 1", "power z a 2 2", "rootof z a 2 x", "compare a a a", "sign a a", "floor a 1",
+            "let z 5 6", "let z 5 /3", "sum z a a a", "less z a a a", "product z a a 1", "over z a a o",
+            "opposite z a a", "inverse z a 1", "power z a 2 2", "rootof z a 2 x", "compare a a a", "sign a a",
+            "floor a 1",
             "decimal a 3 3", "ratio a a", "let z 1 / 2", "let z - 5",
         ):
             self.after(row, BAD_ROW)
@@ -224,8 +226,8 @@ class Refused(Checking):
 
     def test_bad_texts(self):
         for text, at in (
-            ("-0", 1), ("00", 0), ("x", 0), ("1/0", 2), ("5/1", 2), ("4/2", 2), ("-4/2", 3), ("1/2x", 3), ("1234567890123", 0),
-            ("5.", 1), ("-", 1), ("1/", 2), ("+1", 0), ("--1", 1),
+            ("-0", 1), ("00", 0), ("x", 0), ("1/0", 2), ("5/1", 2), ("4/2", 2), ("-4/2", 3), ("1/2x", 3),
+            ("1234567890123", 0), ("5.", 1), ("-", 1), ("1/", 2), ("+1", 0), ("--1", 1),
         ):
             self.after("let z " + text, "refused: BadText " + str(at))
         for text, at in (
@@ -243,8 +245,9 @@ class Refused(Checking):
 
     def test_nothing_held(self):
         for row in (
-            "sum z a q", "sum z q a", "sum z q q", "sum q q a", "less z q a", "product z a q", "over z q a", "over z a q",
-            "over z q o", "opposite z q", "inverse z q", "power z q 0", "rootof z q 1", "compare a q", "compare q a",
+            "sum z a q", "sum z q a", "sum z q q", "sum q q a", "less z q a", "product z a q", "over z q a",
+            "over z a q", "over z q o", "opposite z q", "inverse z q", "power z q 0", "rootof z q 1", "compare a q",
+            "compare q a",
             "sign q", "floor q", "decimal q 0", "ratio q", "product z o q", "product z q o", "less q q q",
         ):
             self.after(row, NO_NUMBER)
@@ -276,8 +279,9 @@ class Refused(Checking):
     def test_two_due_in_one_row(self):
         # A row that is none comes first, whatever else is wrong.
         for row in (
-            "let Z x", "let z x y", "root Z 0 x^^", "root z 13 x^^", "root z 00 0", "sum Z q q", "sum z q", "over z h Q",
-            "power z q 13", "rootof z q 0", "rootof z m 13", "decimal q 31", "compare q A", "inverse Z o", "root z x^1",
+            "let Z x", "let z x y", "root Z 0 x^^", "root z 13 x^^", "root z 00 0", "sum Z q q", "sum z q",
+            "over z h Q", "power z q 13", "rootof z q 0", "rootof z m 13", "decimal q 31", "compare q A",
+            "inverse Z o", "root z x^1",
         ):
             self.after(row, BAD_ROW)
         # Then a bad text, ahead of nth.

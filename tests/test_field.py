@@ -395,6 +395,16 @@ class Roots(Checking):
             self.assertEqual(compared(told, of_ratio(Fraction(place, 2 ** 100).as_integer_ratio())), -1)
             self.assertEqual(compared(told, of_ratio(Fraction(place - 1, 2 ** 100).as_integer_ratio())), 1)
 
+    def test_of_numbers_near_to_0(self):
+        for poly, place in (([1, -GREAT, 1], 0), ([1, -GREAT, 0, 1], 1), ([1, -5, 1], 0), ([1, -10 ** 6, 3, 1], 1)):
+            for many in range(1, 12 // (len(poly) - 1) + 1):
+                number = nth(poly, place)
+                spaced = [0] * (many * (len(poly) - 1) + 1)
+                spaced[::many] = poly
+                sought = [root for root in roots(spaced) if sign_of(root) > 0][0]
+                self.assertEqual(sign_of(number), 1)
+                self.same(root_of(number, many), sought)
+
     def test_by_1(self):
         for number, bounds in pool():
             if sign_of(number) >= 0:

@@ -3,10 +3,13 @@
 import math
 import unittest
 
-from samples import GREAT, KNOWN, Known, drawn, joined, plain_counts, plain_value, power_factor, product, ratio_factor
+from samples import (
+    GREAT, KNOWN, Known, drawn, joined, plain_counts, plain_primitive, plain_value, power_factor, product, ratio_factor,
+)
 
 from surefoot.errors import FootError, TooGreat
-from surefoot.isolating import isolated
+from surefoot.isolating import is_alone, isolated, refined
+from surefoot.polys import square_free
 from surefoot.ratios import order_of
 
 
@@ -120,6 +123,46 @@ class Pairs(unittest.TestCase):
         for under in (1, 2, 3, 4, 5, 6, 7, 8, 9, 12, 16, 105):
             factors = [ratio_factor(top, under) for top in range(-3, 4)]
             self.check(*joined(*factors, power_factor(2, 2), power_factor(3, 3)))
+
+
+class Alone(unittest.TestCase):
+    """Told of narrow pairs alone, but never where it isn't so."""
+
+    def test_one_root_between(self):
+        for poly, low, high in (
+            ([-2, 0, 1], (1, 1), (3, 2)), ([-2, 0, 1], (-3, 2), (-1, 1)), ([-2, 0, 1], (0, 1), (9, 1)),
+            ([-1, 2], (0, 1), (1, 1)), ([0, -1, 0, 1], (-1, 2), (1, 3)), ([2, 0, -1], (1, 1), (2, 1)),
+            ([-1, 0, 4], (1, 3), (7, 3)),
+        ):
+            self.assertTrue(is_alone(poly, (low, high)))
+
+    def test_none_or_more_between_or_one_at_an_end(self):
+        for poly, low, high in (
+            ([-2, 0, 1], (3, 2), (2, 1)), ([-2, 0, 1], (-2, 1), (2, 1)), ([-2, 0, 1], (-1, 1), (1, 1)),
+            ([0, -1, 0, 1], (-1, 1), (1, 2)), ([0, -1, 0, 1], (-1, 2), (1, 1)), ([0, -1, 0, 1], (-1, 1), (1, 1)),
+            ([0, -1, 0, 1], (0, 1), (3, 2)), ([0, -1, 0, 1], (1, 2), (1, 1)), ([-1, 2], (1, 2), (1, 1)),
+            ([-1, 2], (0, 1), (1, 2)), ([-6, 11, -6, 1], (1, 2), (7, 2)), ([1, 0, 1], (-1, 1), (1, 1)),
+        ):
+            self.assertFalse(is_alone(poly, (low, high)))
+
+    def test_against_plain_counts(self):
+        ends = [(top, under) for under in (1, 2, 3) for top in range(-9, 10) if math.gcd(top, under) == 1]
+        for seed in range(12):
+            poly = drawn(seed, seed % 6 + 1, 9)
+            if len(isolated(poly)) == 0 or plain_primitive(square_free(poly)) != plain_primitive(poly):
+                continue
+            between = plain_counts(poly)
+            for low in ends:
+                for high in ends:
+                    if order_of(low, high) < 0 and is_alone(poly, (low, high)):
+                        self.assertEqual(between(low, high), 1)
+                        self.assertTrue(plain_value(poly, low) and plain_value(poly, high))
+
+    def test_of_narrow_pairs(self):
+        for poly, numbers in KNOWN:
+            free = square_free(poly)
+            for pair in isolated(poly):
+                self.assertTrue(is_alone(free, refined(poly, pair, (1, 2 ** 900))))
 
 
 class Refused(unittest.TestCase):
